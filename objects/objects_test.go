@@ -10,6 +10,7 @@ import (
 	"flickerbook/api"
 	"flickerbook/blend"
 	"flickerbook/objects"
+	"flickerbook/op"
 )
 
 // pic of numbers: V and A of each pixel, row by row.
@@ -339,6 +340,70 @@ func TestOthersStay(t *testing.T) {
 				}
 			}
 			l = got
+		}
+	}
+}
+
+// edgeOps: of each kind all ops that may be (G1), with numbers at the edges.
+func edgeOps() []api.Op {
+	var l []api.Op
+	edges := []int{-20, 0, 1, 6, 8, 9, 20, 99, 255}
+	try := func(o api.Op) {
+		if op.Check(o) == nil {
+			l = append(l, o)
+		}
+	}
+	for kind := api.Head; kind <= api.End; kind++ {
+		for id := 0; id <= 6; id++ {
+			for _, p := range []api.Picture{{}, dot(200), blend.Plain(8, 8, api.Pixel{V: 255, A: 1})} {
+				for _, a := range edges {
+					for _, b := range edges {
+						try(api.Op{Kind: kind, ID: id, A: a, B: b, Pic: p})
+						try(api.Op{Kind: kind, ID: id, A: a, B: b, C: 20, D: 20, Pic: p})
+					}
+				}
+			}
+		}
+	}
+	return l
+}
+
+// TestDoWhatMayBe: F2 of ops that may be (G1): of an object that there is each
+// op of the kinds that have an ID is done, and what comes of it may be (F1); all
+// other kinds are no op of an object. W3: no other object is changed.
+func TestDoWhatMayBe(t *testing.T) {
+	done := [api.End + 1]int{}
+	for _, o := range edgeOps() {
+		got, err := objects.Do(three(), o)
+		_, has := objects.Get(three(), o.ID)
+		if may := o.Kind == api.Pict || has; may != (err == nil) {
+			t.Fatalf("Do(%v) = %v", o, err)
+		}
+		if err != nil {
+			if err != api.ErrNone || len(got) > 0 {
+				t.Fatalf("Do(%v) = %v, %v", o, got, err)
+			}
+			continue
+		}
+		done[o.Kind]++
+		changed := o.ID
+		if o.Kind == api.Copy {
+			changed = o.A
+		}
+		for i, x := range got {
+			if i > 0 && got[i-1].ID >= x.ID || objects.Check(x) != nil {
+				t.Fatalf("Do(%v) = %v", o, got)
+			}
+		}
+		for _, x := range three() {
+			if y, ok := objects.Get(got, x.ID); x.ID != changed && (!ok || !reflect.DeepEqual(x, y)) {
+				t.Fatalf("Do(%v) changes %d: %v", o, x.ID, y)
+			}
+		}
+	}
+	for kind, n := range done {
+		if (n > 0) != (kind >= api.Pict && kind <= api.Put) {
+			t.Errorf("kind %d is done %d times", kind, n)
 		}
 	}
 }
