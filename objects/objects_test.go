@@ -476,6 +476,15 @@ func TestWhatIsSeen(t *testing.T) {
 	}
 }
 
+// TestOwn: the same objects, also of none.
+func TestOwn(t *testing.T) {
+	for _, l := range [][]api.Object{nil, {}, three(), make([]api.Object, 2)} {
+		if got := objects.Own(l); !same(got, l) {
+			t.Errorf("Own = %v, want %v", got, l)
+		}
+	}
+}
+
 // TestSharesNothing: Z2; what was handed in stays as it is, also when an answer
 // is written into.
 func TestSharesNothing(t *testing.T) {
@@ -490,6 +499,7 @@ func TestSharesNothing(t *testing.T) {
 		func(l []api.Object) []api.Object { return objects.Set(l, api.Object{ID: 6, Pic: p}) },
 		func(l []api.Object) []api.Object { return objects.Set(l, api.Object{ID: 4, Pic: p}) },
 		func(l []api.Object) []api.Object { o, _ := objects.Get(l, 3); return []api.Object{o} },
+		objects.Own,
 		func(l []api.Object) []api.Object { return []api.Object{objects.Fresh(2, p)} },
 		func(l []api.Object) []api.Object { return []api.Object{{Pic: objects.Seen(l, 3, 3, api.Pixel{})}} },
 	}

@@ -2,6 +2,8 @@
 package picture
 
 import (
+	"slices"
+
 	"flickerbook/api"
 	"flickerbook/pack"
 )
@@ -71,6 +73,13 @@ func Parse(s string) (api.Picture, error) {
 		above = row
 	}
 	return p, nil
+}
+
+// Own picture: the same one, its pixels not shared. What an answer holds must
+// not change with what it was made of.
+func Own(p api.Picture) api.Picture {
+	p.P = slices.Clone(p.P)
+	return p
 }
 
 func isSide(n int) bool { return n >= 1 && n <= api.MaxSide }

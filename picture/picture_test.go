@@ -326,6 +326,24 @@ func TestParseIsFresh(t *testing.T) {
 	}
 }
 
+// A picture of one's own is the same, and changes with no other one (Z2), also one that may not be (Z1).
+func TestOwn(t *testing.T) {
+	p := pic(2, 1, 10, 20, 30, 40)
+	q := picture.Own(p)
+	if !same(q, p) {
+		t.Errorf("Own = %v, want %v", q, p)
+	}
+	q.P[0].V = 1
+	if !same(p, pic(2, 1, 10, 20, 30, 40)) {
+		t.Errorf("pixels are shared: %v", p)
+	}
+	for _, c := range wrongPictures() {
+		if q := picture.Own(c.in); !same(q, c.in) {
+			t.Errorf("%s: Own = %v", c.name, q)
+		}
+	}
+}
+
 // No bytes make Parse panic, and what it answers may be (Z1, C1).
 func TestParseOfAnyBytes(t *testing.T) {
 	seed := uint32(7)
