@@ -496,3 +496,17 @@ func TestLists(t *testing.T) {
 		t.Errorf("read again: %v, want %v", q, o)
 	}
 }
+
+// TestParts: G1: what each kind has, and nothing of no kind.
+func TestParts(t *testing.T) {
+	for _, r := range table() {
+		if id, numbers, pic := op.Parts(r.kind); id != r.id || numbers != len(r.numbers) || pic != r.pic {
+			t.Errorf("Parts of %s = %v, %d, %v", r.name, id, numbers, pic)
+		}
+	}
+	for _, kind := range []int{math.MinInt, -1, 0, 17, math.MaxInt} {
+		if id, numbers, pic := op.Parts(kind); id || numbers != 0 || pic {
+			t.Errorf("Parts of %d = %v, %d, %v", kind, id, numbers, pic)
+		}
+	}
+}
